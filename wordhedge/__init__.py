@@ -1,0 +1,1 @@
+"""Wordhedge: words in a hedge of letters."""
