@@ -185,5 +185,40 @@ class SettleTest(unittest.TestCase):
             self.assertEqual(told_from(root), [("", False, 0)])
 
 
+class PlaceTest(unittest.TestCase):
+    def test_ahead_of(self):
+        root = Twig("")
+        for word in ("m", "b", "ba", "bz"):
+            put(root, word)
+        expected = {"a": 0, "b": 0, "c": 3, "m": 3, "n": 4, "z": 4}
+        self.assertEqual({letter: root.ahead_of(letter) for letter in expected}, expected)
+        root.put_here()
+        for letter in expected:
+            self.assertEqual(root.ahead_of(letter), expected[letter] + 1)
+
+    def test_ahead_of_a_letter_of_a_twig_without_longer_ones(self):
+        twig = Twig("ab")
+        self.assertEqual(twig.ahead_of("z"), 0)
+        twig.put_here()
+        self.assertEqual(twig.ahead_of("a"), 1)
+
+    def test_letter_at(self):
+        root = Twig("")
+        for word in ("m", "b", "ba", "bz"):
+            put(root, word)
+        self.assertEqual([root.letter_at(place) for place in range(4)], ["b", "b", "b", "m"])
+        put(root, "")
+        self.assertEqual([root.letter_at(place) for place in range(1, 5)], ["b", "b", "b", "m"])
+
+    def test_asking_changes_nothing(self):
+        root = Twig("")
+        for word in ("", "m", "b", "ba"):
+            put(root, word)
+        before = told_from(root)
+        root.ahead_of("c")
+        root.letter_at(2)
+        self.assertEqual(told_from(root), before)
+
+
 if __name__ == "__main__":
     unittest.main()

@@ -6,6 +6,9 @@ take_here(): the twig's text is a word no more; True where it was one.
 follow(letter): the twig longer by a letter, None where there is none.
 grow(letter): the twig longer by a letter, made where there is none.
 settle(): longer twigs that no word needs go, and the words are counted anew.
+ahead_of(letter): how many of the twig's words come ahead of its text with a letter behind it.
+letter_at(place): the letter to follow to the word at a place among the twig's words,
+which isn't the twig's own text; for a settled twig.
 """
 
 
@@ -52,3 +55,13 @@ class Twig:
                 many = many + twig.many
         self.longer = kept
         self.many = many
+
+    def ahead_of(self, letter):
+        many = 1 if self.here else 0
+        for other, twig in self.longer.items():
+            if other < letter:
+                many = many + twig.many
+        return many
+
+    def letter_at(self, place):
+        return max([letter for letter in self.longer if self.ahead_of(letter) <= place])
